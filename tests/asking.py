@@ -37,6 +37,38 @@ def below(x, y):
     return [7, x, y]
 
 
+def many():
+    return [8]
+
+
+def nth(k):
+    return [9, k]
+
+
+def chance(x, y):
+    return [10, x, y]
+
+
+def fairest():
+    return [11]
+
+
+def best():
+    return [12]
+
+
+def hang(n):
+    return [13, n]
+
+
+def stretches():
+    return [14]
+
+
+def quiet(w):
+    return [15, w]
+
+
 def joined(calls):
     """The calls one behind another, as they are handed in."""
     return [number for call in calls for number in call]

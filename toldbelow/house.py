@@ -1,4 +1,4 @@
-"""One house: what is told in it, what of that is kept and what is set aside."""
+"""One house: what is told in it, what of that is kept or set aside, and what is certain or likely then."""
 
 MOST_THINGS = 6
 MOST_TOLD = 20
@@ -8,6 +8,9 @@ NOT_TOLD = -2
 IS_KEPT = -3
 TOLD_ALREADY = -4
 TOO_MANY_TOLD = -5
+NO_SUCH_ROW = -2
+NOTHING_TO_ASK = -3
+NO_STRETCHES = -6
 
 THINGS = 0
 TELL = 1
@@ -16,13 +19,17 @@ TRUST = 3
 KEPT = 4
 ASIDE = 5
 WHY = 6
+IS = 7
+MANY = 8
+NTH = 9
+CHANCE = 10
+FAIREST = 11
+BEST = 12
+HANG = 13
+STRETCHES = 14
 
 # How many whole numbers stand behind each call's own number, by that number.
-NUMBERS_BEHIND = (1, 3, 1, 3, 0, 0, 1, 2)
-
-
-class NotBuilt(Exception):
-    """A call that the document tells, but that this program can't answer yet."""
+NUMBERS_BEHIND = (1, 3, 1, 3, 0, 0, 1, 2, 0, 1, 2, 0, 0, 1, 0, 1)
 
 
 class Told:
@@ -84,6 +91,71 @@ def shortest_chain(low, high, told):
     return chain
 
 
+def may_stand_next(thing, row, told):
+    """Whether thing is not in row yet, but all that told tells below it is."""
+    return thing not in row and all([one.low in row for one in told if one.high == thing])
+
+
+def rows_by(size, told):
+    """Each row of so many things against which nothing of told is told, the first row first."""
+    begun = [[]]
+    for place in range(size):
+        longer = []
+        for row in begun:
+            longer.extend([row + [thing] for thing in range(1, size + 1) if may_stand_next(thing, row, told)])
+        begun = longer
+    return begun
+
+
+def is_ahead(first, second, row):
+    """Whether first stands ahead of second in row."""
+    return row.index(first) < row.index(second)
+
+
+def times_ahead(first, second, rows):
+    """In how many of rows first stands ahead of second."""
+    return len([row for row in rows if is_ahead(first, second, row)])
+
+
+def told_against(row, told):
+    """How many of told are told against row."""
+    return len([one for one in told if is_ahead(one.high, one.low, row)])
+
+
+def lowest_terms(part, whole):
+    """The fraction with part above the line and whole below it, in lowest terms."""
+    divisor = max([number for number in range(1, whole + 1) if part % number == 0 and whole % number == 0])
+    return [part // divisor, whole // divisor]
+
+
+def undecided_pairs(size, told):
+    """The pairs of things of which neither lies below the other by told, the lower ones first."""
+    pairs = []
+    for first in range(1, size + 1):
+        for second in range(first + 1, size + 1):
+            if not lies_below(first, second, told) and not lies_below(second, first, told):
+                pairs.append((first, second))
+    return pairs
+
+
+def things_below(high, size, told):
+    """Which of so many things lie below high by told, rising."""
+    return [low for low in range(1, size + 1) if lies_below(low, high, told)]
+
+
+def is_within(group, other):
+    """Whether all of group is in other."""
+    return all([thing in other for thing in group])
+
+
+def is_nested(groups):
+    """Whether of any two of the groups one is within the other."""
+    for group in groups:
+        if not all([is_within(group, other) or is_within(other, group) for other in groups]):
+            return False
+    return True
+
+
 def counted(numbers):
     """The numbers, with how many they are ahead of them."""
     return [len(numbers)] + numbers
@@ -125,6 +197,10 @@ class House:
         kept = self.kept_numbers()
         return [one.number for one in self.told if one.number not in kept]
 
+    def rows(self):
+        """The rows that may be, in order."""
+        return rows_by(self.size, keep(self.counting()))
+
     def things(self, size):
         """Begin anew with so many things; trust stays."""
         if size < 1 or size > MOST_THINGS:
@@ -136,7 +212,7 @@ class House:
 
     def tell(self, who, low, high):
         """Who tells that low lies below high."""
-        if who < 1 or who > 3 or not self.has_thing(low) or not self.has_thing(high) or low == high:
+        if who not in self.trusted or not self.has_thing(low) or not self.has_thing(high) or low == high:
             return [WRONG]
         if any([one.same_words(who, low, high) for one in self.told]):
             return [TOLD_ALREADY]
@@ -192,6 +268,77 @@ class House:
             return [2]
         return [0]
 
+    def many(self):
+        """How many rows may be."""
+        return [len(self.rows())]
+
+    def nth(self, place):
+        """The row that may be at this place, counted from 0."""
+        rows = self.rows()
+        if place >= len(rows):
+            return [NO_SUCH_ROW]
+        return rows[place]
+
+    def chance(self, first, second):
+        """The chance that first stands ahead of second."""
+        if not self.has_thing(first) or not self.has_thing(second) or first == second:
+            return [WRONG]
+        rows = self.rows()
+        return lowest_terms(times_ahead(first, second, rows), len(rows))
+
+    def fairest(self):
+        """The fairest question, and the chance that the first of its things stands ahead of the second."""
+        pairs = undecided_pairs(self.size, keep(self.counting()))
+        if not pairs:
+            return [NOTHING_TO_ASK]
+        rows = self.rows()
+        # Twice the times less all of them is 0 at a half, and as far from 0 on either side of it. Of as
+        # near pairs min takes the first, and the pairs with the lower things come first.
+        pair = min(pairs, key=lambda each: abs(2 * times_ahead(each[0], each[1], rows) - len(rows)))
+        return [pair[0], pair[1]] + lowest_terms(times_ahead(pair[0], pair[1], rows), len(rows))
+
+    def best(self):
+        """How many are told against the best row, and this row."""
+        # Any row may be the best one, whatever is kept. Of as few told against them min takes the first.
+        row = min(rows_by(self.size, []), key=lambda each: told_against(each, self.told))
+        return [told_against(row, self.told)] + row
+
+    def hang(self, number):
+        """What is set aside, but would be kept, were what is told as number taken back."""
+        if self.told_as(number) is None:
+            return [NOT_TOLD]
+        kept = keep([one for one in self.counting() if one.number != number])
+        kept_then = [one.number for one in kept]
+        return counted([aside for aside in self.aside_numbers() if aside in kept_then])
+
+    def stretches(self):
+        """How many moments there are, and for each thing those at which it begins and ends."""
+        kept = keep(self.counting())
+        below = [things_below(thing, self.size, kept) for thing in range(1, self.size + 1)]
+        moments = []
+        for own in below:
+            if own not in moments:
+                moments.append(own)
+        # Where y begins no later than x, all that ends before y begins ends before x begins, too: without
+        # nested sets there are no stretches. With them the moments below are some, and a set is less than
+        # another one just where it has fewer things.
+        if not is_nested(moments):
+            return [NO_STRETCHES]
+        answered = [len(moments)]
+        for thing, own in enumerate(below, start=1):
+            answered.append(1 + len([group for group in moments if len(group) < len(own)]))
+            answered.append(len([group for group in moments if thing not in group]))
+        return answered
+
+    def quiet(self, who):
+        """Nothing that who told is told any more."""
+        if who not in self.trusted:
+            return [WRONG]
+        staying = [one for one in self.told if one.who != who]
+        taken = len(self.told) - len(staying)
+        self.told = staying
+        return [taken]
+
 
 def answer(house, call, given):
     """What the house answers to one call with the numbers given behind it."""
@@ -209,7 +356,23 @@ def answer(house, call, given):
         return house.aside()
     if call == WHY:
         return house.why(given[0])
-    return house.compare(given[0], given[1])
+    if call == IS:
+        return house.compare(given[0], given[1])
+    if call == MANY:
+        return house.many()
+    if call == NTH:
+        return house.nth(given[0])
+    if call == CHANCE:
+        return house.chance(given[0], given[1])
+    if call == FAIREST:
+        return house.fairest()
+    if call == BEST:
+        return house.best()
+    if call == HANG:
+        return house.hang(given[0])
+    if call == STRETCHES:
+        return house.stretches()
+    return house.quiet(given[0])
 
 
 def answers(calls):
@@ -219,8 +382,6 @@ def answers(calls):
     place = 0
     while place < len(calls):
         call = calls[place]
-        if call >= len(NUMBERS_BEHIND):
-            raise NotBuilt(f"call {call} is not built yet")
         end = place + 1 + NUMBERS_BEHIND[call]
         numbers = answer(house, call, calls[place + 1:end])
         answered.append(len(numbers))
